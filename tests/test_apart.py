@@ -4,54 +4,8 @@ import itertools
 import unittest
 
 from arrowgraph.desk import answers
+from tests.graphs import all_graphs, apart_by_ways
 from tests.lines import HIGHEST, HIGHEST_SET, apart, arrow, ask, graph, last, line, nodeset
-
-
-def below(arrows, node):
-    found = {node}
-    while True:
-        wider = found | {j for i, j in arrows if i in found}
-        if wider == found:
-            return found
-        found = wider
-
-
-def way_is_open(arrows, way, known):
-    # The other usual telling of the same: node by node along one way.
-    for before, node, behind in zip(way, way[1:], way[2:]):
-        if (before, node) in arrows and (behind, node) in arrows:
-            if not below(arrows, node) & known:
-                return False
-        elif node in known:
-            return False
-    return True
-
-
-def ways(arrows, way, goal):
-    if way[-1] == goal:
-        yield way
-        return
-    for i, j in arrows:
-        for here, there in ((i, j), (j, i)):
-            if here == way[-1] and there not in way:
-                yield from ways(arrows, way + [there], goal)
-
-
-def apart_by_ways(arrows, first, second, known):
-    return not any(way_is_open(arrows, way, known)
-                   for i in first for j in second for way in ways(arrows, [i], j))
-
-
-def leads_round(arrows):
-    return any(i in below(arrows, j) for i, j in arrows)
-
-
-def all_graphs(n):
-    pairs = list(itertools.combinations(range(n), 2))
-    for choice in itertools.product((0, 1, 2), repeat=len(pairs)):
-        arrows = [(i, j) if lead == 1 else (j, i) for (i, j), lead in zip(pairs, choice) if lead]
-        if not leads_round(arrows):
-            yield arrows
 
 
 def all_triples(n):

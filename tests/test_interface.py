@@ -3,17 +3,23 @@
 import ast
 import contextlib
 import io
+import itertools
 import pathlib
 import unittest
 
 import arrowgraph.desk
 from arrowgraph.desk import answers
-from tests.lines import ALWAYS, BEGIN, apart, arrow, graph, least, line, nodes, roots, round_call, same
+from tests.lines import (ALWAYS, BEGIN, apart, arrow, graph, least, line, nodes, roots, round_call, same,
+                         told_by_calls)
 
 PACKAGE = pathlib.Path(arrowgraph.desk.__file__).parent
 
-GARDEN = line(*graph(4, (0, 2), (1, 2), (2, 3)), apart(1, 2, 0), apart(1, 2, 8), roots(8), arrow(3, 0), nodes(17))
-GARDEN_TOLD = [1, 0, 1, 0, 1, 0, 1, 1, 1, 2, 1, 1, 1, 0, 1, 15, 1, -2, 1, -1]
+# All nine calls, and refusals among them.
+GARDEN = line(*graph(4, (0, 2), (1, 2), (2, 3)), apart(1, 2, 0), apart(1, 2, 8), roots(8), arrow(3, 0), nodes(17),
+              ALWAYS, round_call(0), least(0, 3), same([2, 3, 1, 2, 0, 2]), same([0]), least(2, 3), round_call(4))
+GARDEN_TABLE = [0, 0, 1, 0] + [0] * 12 + [0, 0, 1, 0] + [0] * 12 + [2, 2, 0, 1] + [0] * 12 + [0, 0, 2] + [0] * 205
+GARDEN_TOLD = ([1, 0, 1, 0, 1, 0, 1, 1, 1, 2, 1, 1, 1, 0, 1, 15, 1, -2, 1, -1] + [257, 0] + GARDEN_TABLE
+               + [1, 6, 1, 4, 1, 1, 1, -1, 1, -2, 1, -1])
 
 
 def refuse(*given, **named):
@@ -42,6 +48,55 @@ class Interface(unittest.TestCase):
         calls = line(BEGIN, round_call(1), least(1, 1), same([]), same([1, 1]), same([0, 1] * 120), ALWAYS, nodes(1),
                      roots(1))
         self.assertEqual(answers(calls), [1, 0] + [1, -4] * 6 + [1, 0, 1, 1])
+
+    def test_a_row_is_read_to_its_end(self):
+        for given in ([], [0, 1], [8, 8, 7], [0] * 240, [7, 2] * 120, [0, 1, 0, 2, 0, 3]):
+            with self.subTest(given=given):
+                told = answers(line(*graph(4, (0, 1)), same(given), roots(2)))
+                self.assertEqual(told[-2:], [1, 3])
+                self.assertEqual(len(told), 10)
+
+    def test_before_always_stands_257_and_1_before_its_refusal(self):
+        self.assertEqual(answers(line(BEGIN, ALWAYS)), [1, 0, 1, -4])
+        self.assertEqual(answers(line(BEGIN, nodes(1), ALWAYS)), [1, 0, 1, 0, 257] + [0] * 257)
+        self.assertEqual(answers(line(BEGIN, nodes(1), ALWAYS, BEGIN, ALWAYS, nodes(1), ALWAYS)),
+                         [1, 0, 1, 0, 257] + [0] * 257 + [1, 0, 1, -4, 1, 0, 257] + [0] * 257)
+
+    def test_all_nine_in_any_order(self):
+        # Behind the same graph each answer is the same, whatever was asked before.
+        start = graph(4, (0, 2), (1, 2), (2, 3))
+        told = ((apart(1, 2, 4), [0]), (roots(4), [7]), (round_call(2), [11]), (least(1, 3), [4]),
+                (same([0, 2, 1, 2, 2, 3]), [1]), (ALWAYS, [0] + GARDEN_TABLE), (arrow(2, 0), [-2]), (nodes(0), [-1]))
+        for order in itertools.permutations(told, 4):
+            calls = [call for call, numbers in order]
+            self.assertEqual(told_by_calls(*start, *calls)[5:], [numbers for call, numbers in order])
+
+    def test_begin_and_nodes_again_in_the_middle(self):
+        asked = [round_call(2), least(0, 1), same([0, 2, 1, 2]), ALWAYS, apart(1, 2, 4), roots(4), arrow(0, 1)]
+        table = [0, 0, 0, 1] + [0] * 15 + [1] + [0] * 13 + [2, 2] + [0] * 222
+        self.assertEqual(
+            told_by_calls(*graph(3, (0, 2), (1, 2)), *asked, BEGIN, *asked, nodes(3), *asked),
+            [[0], [0], [0], [1]] + [[3], [0], [1], table, [0], [7], [2]]
+            + [[0]] + [[-4]] * 7
+            + [[0]] + [[0], [0], [0], [0] * 257, [1], [4], [0]])
+
+    def test_behind_nodes_every_call_is_answered(self):
+        numbers = (-2147483648, -1, 0, 1, 15, 16, 2147483647)
+        calls = [call(i) for call in (nodes, round_call) for i in numbers]
+        calls += [call(i, j) for call in (arrow, least) for i in numbers for j in numbers]
+        calls += [roots(4294967295), apart(4294967295, 0, 1), same([255] * 240), same([0] * 239), ALWAYS]
+        for n, place in itertools.product((1, 2, 16), range(0, len(calls), 25)):
+            part = [each for call in calls[place:place + 25] for each in (nodes(n), call)]
+            for numbers in told_by_calls(BEGIN, *part):
+                self.assertIn(len(numbers), (1, 257))
+                self.assertNotEqual(numbers[0], -4)
+
+    def test_the_longest_list(self):
+        # As many of the longest rows as 60 calls can have.
+        full = [node for pair in itertools.combinations(range(16), 2) for node in pair]
+        calls = line(BEGIN, nodes(16), *[same(full)] * 58)
+        self.assertEqual(len(calls), 3 + 58 * 242)
+        self.assertEqual(answers(calls), [1, 0, 1, 0] + [1, 0] * 58)
 
     def test_numbers_that_look_like_calls(self):
         self.assertEqual(answers([0, 1, 4, 2, 0, 1, 2, 1, 2, 4, 4, 3, 1, 4, 2, 4, 0]),
